@@ -40,6 +40,15 @@ type Node struct {
 // Named is the node with a hash, unread.
 func Named(hash string) *Node { return &Node{Kind: Unread, Hash: hash} }
 
+// Top is the uppermost node of the map with a root, unread; nil of the empty
+// map, which has no node.
+func Top(root string) *Node {
+	if root == EmptyRoot() {
+		return nil
+	}
+	return Named(root)
+}
+
 // NewLeaf makes a leaf.
 func NewLeaf(path string, value string) *Node {
 	return hashed(&Node{Kind: Leaf, Path: path, Value: value})

@@ -53,28 +53,36 @@ func (m *model) read(s stock, head string, x place) api.Errno {
 	return api.OK
 }
 
+// way: behind which half bytes the nodes on a path's way stand.
+func (m *model) way(path string) []string {
+	var out []string
+	for n := 0; n <= len(path); n++ {
+		if _, there := m.all[path[:n]]; there {
+			out = append(out, path[:n])
+		}
+	}
+	return out
+}
+
 // walk: what reading on a path's way answers.
 func (m *model) walk(s stock, path string) api.Errno {
-	head := ""
-	for {
-		x, there := m.all[head]
-		if !there {
-			return api.OK
-		}
-		if e := m.read(s, head, x); e != api.OK {
+	for _, head := range m.way(path) {
+		if e := m.read(s, head, m.all[head]); e != api.OK {
 			return e
 		}
-		next := ""
-		for _, n := range x.next {
-			if strings.HasPrefix(path, n) {
-				next = n
-			}
-		}
-		if next == "" {
-			return api.OK
-		}
-		head = next
 	}
+	return api.OK
+}
+
+// proof: the codes of those on a path's way that stand in no parent.
+func (m *model) proof(path string) []string {
+	var out []string
+	for _, head := range m.way(path) {
+		if x := m.all[head]; apart(head, x) {
+			out = append(out, x.code)
+		}
+	}
+	return out
 }
 
 // become: the pairs change; the nodes that were not there before are in memory.
@@ -247,7 +255,7 @@ func (g *game) step() {
 	x, m := g.maps[i], g.models[i]
 	key, value := someKey(g.r), someValue(g.r)
 	path := pathOf(key)
-	switch k := g.r.Intn(20); {
+	switch k := g.r.Intn(23); {
 	case k < 4:
 		v, e := x.Get(key)
 		want := m.walk(g.stock, path)
@@ -276,6 +284,14 @@ func (g *game) step() {
 		if len(g.maps) < 6 {
 			g.open(root)
 		}
+	case k < 21:
+		p, e := x.Prove(key)
+		want := m.walk(g.stock, path)
+		g.tell("prove", e, want)
+		if e != api.OK && p != nil || e == api.OK && !slices.Equal(p, m.proof(path)) {
+			g.t.Fatalf("Prove(%q): %x, want %x", key, p, m.proof(path))
+		}
+		wantVerify(g.t, x, key, p, e, m.has[path])
 	default:
 		if g.r.Intn(3) == 0 {
 			g.harm()
@@ -286,7 +302,8 @@ func (g *game) step() {
 	}
 }
 
-// P8, P9: the errors of every call, every value, root and text, step by step.
+// P8 to P10: the errors of every call, every value, root, text and proof, step by
+// step.
 func TestGame(t *testing.T) {
 	seen := map[string]int{}
 	for seed := range int64(120) {
@@ -307,7 +324,7 @@ func TestGame(t *testing.T) {
 			seen[k] += n
 		}
 	}
-	for _, k := range []string{"get 0", "get 9", "get 10", "put 0", "put 9", "put 10", "with 0", "with 9", "with 10", "delete true 0", "delete false 0", "delete false 9", "delete false 10"} {
+	for _, k := range []string{"get 0", "get 9", "get 10", "put 0", "put 9", "put 10", "with 0", "with 9", "with 10", "delete true 0", "delete false 0", "delete false 9", "delete false 10", "prove 0", "prove 9", "prove 10"} {
 		if seen[k] < 10 {
 			t.Errorf("%s came %d times only: %v", k, seen[k], seen)
 		}

@@ -35,13 +35,20 @@ func laid(st *store.Store, it api.Item) api.Item {
 	return text(h)
 }
 
-// wantAll: what the four calls answer that come to a node on a key's way.
+// wantAll: what the five calls answer that come to a node on a key's way.
 func wantAll(t *testing.T, name string, st *store.Store, root string, key string, want api.Errno) {
 	t.Helper()
 	x := open(t, st, root)
 	if v, e := x.Get(key); e != want || v != "" && e != api.OK {
 		t.Errorf("%s, Get: %q, %d, want %d", name, v, e, want)
 	}
+	x = open(t, st, root)
+	p, e := x.Prove(key)
+	if e != want || (p == nil) != (e != api.OK) || x.Root() != root {
+		t.Errorf("%s, Prove: %x, %d, want %d", name, p, e, want)
+	}
+	v, _ := x.Get(key)
+	wantVerify(t, x, key, p, e, v)
 	x = open(t, st, root)
 	if r, e := x.RootWith(key, "new"); e != want || (r == "") != (e != api.OK) {
 		t.Errorf("%s, RootWith: %x, %d, want %d", name, r, e, want)

@@ -82,8 +82,9 @@ func change(t *testing.T, r *rand.Rand, x *trie.Trie, key string) api.Errno {
 	return e
 }
 
-// P1, P8, P9: whatever lies in a store, no call panics, a call that fails
-// changes nothing, and what was committed is there again.
+// P1, P8 to P10: whatever lies in a store, no call panics, a call that fails
+// changes nothing, what was committed is there again, and what is told is
+// proved.
 func TestStrangeStores(t *testing.T) {
 	r := rand.New(rand.NewSource(1))
 	seen := map[api.Errno]int{}
@@ -106,6 +107,11 @@ func TestStrangeStores(t *testing.T) {
 			if w, f := y.Get(key); v != w || e != f {
 				t.Fatalf("Get(%x): %q, %d, behind Commit %q, %d", key, v, e, w, f)
 			}
+			p, f := x.Prove(key)
+			if f != e || f != api.OK && p != nil {
+				t.Fatalf("Prove(%x): %d, Get %d", key, f, e)
+			}
+			wantVerify(t, x, key, p, f, v)
 		}
 	}
 	for _, e := range []api.Errno{api.OK, api.ErrMissing, api.ErrNode} {

@@ -215,7 +215,8 @@ func TestRootWith(t *testing.T) {
 	}
 }
 
-// P8: what RootWith, Put, Delete and Get read stays, also if they fail.
+// P8, P10: what Get, Put, RootWith, Delete and Prove read stays, also if they
+// fail.
 func TestReadStays(t *testing.T) {
 	// Two branches, the one below the other, and leaves apart.
 	l := []string{"\x00\x00", long + "1", "\x00\x01", long + "2", "\x10", long + "3"}
@@ -229,6 +230,7 @@ func TestReadStays(t *testing.T) {
 		"Put":      func(x *trie.Trie) api.Errno { return x.Put("\x00\x00", "v") },
 		"RootWith": func(x *trie.Trie) api.Errno { _, e := x.RootWith("\x00\x00", "v"); return e },
 		"Delete":   func(x *trie.Trie) api.Errno { _, e := x.Delete("\x00\x00"); return e },
+		"Prove":    func(x *trie.Trie) api.Errno { _, e := x.Prove("\x00\x00"); return e },
 	} {
 		x := open(t, st, root)
 		kept, e := st.Get(leaf)
