@@ -1,6 +1,9 @@
 package rlp
 
-import "ledger/api"
+import (
+	"ledger/api"
+	"ledger/num"
+)
 
 // within: whether a list at this level, and all lists in it, keep to the
 // bounds of levels and items. It goes no deeper than they, so that it ends also
@@ -60,16 +63,6 @@ func headOf(kind int, n int) string {
 	if n <= maxShort {
 		return string([]byte{byte(kind + n)})
 	}
-	length := bytesOf(n)
+	length := num.Text(n)
 	return string([]byte{byte(kind + maxShort + len(length))}) + length
-}
-
-// bytesOf tells a length's bytes, the highest first and not 0.
-func bytesOf(n int) string {
-	out := ""
-	for n > 0 {
-		out = string([]byte{byte(n % 256)}) + out
-		n = n / 256
-	}
-	return out
 }
